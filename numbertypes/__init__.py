@@ -1,0 +1,1 @@
+"""Numbertypes: in which rings a program of products is right."""
