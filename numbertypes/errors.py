@@ -41,9 +41,9 @@ class InvalidTable(RingError):
 
 
 class InvalidName(RingError):
-    def __init__(self, name):
+    def __init__(self, given):
         super().__init__("a value is no name")
-        self.name = name
+        self.given = given
         self.code = "InvalidName"
 
 

@@ -7,7 +7,7 @@ from samples import ANY_VALUES, same
 
 UNDER_RING_ERROR = {
     "InvalidNumber": ["given"], "InvalidThing": ["given"], "InvalidRing": ["given"], "InvalidTable": ["rule"],
-    "InvalidName": ["name"], "InvalidTerm": ["at"], "InvalidHead": ["part"], "InvalidStep": ["procedure", "at"],
+    "InvalidName": ["given"], "InvalidTerm": ["at"], "InvalidHead": ["part"], "InvalidStep": ["procedure", "at"],
     "InvalidText": ["line"], "InvalidLine": ["at"], "InvalidProduct": ["at"], "InvalidOrder": ["given"],
     "InvalidCommand": ["at"], "DegreeTooHigh": ["at"], "NoInverse": ["number"], "NotCommuting": [],
     "NotWhole": ["at"], "NotStraight": ["at"], "NoUnit": ["at"], "Unused": ["name"], "WrongCount": ["given"],
