@@ -5,6 +5,7 @@ from math import gcd, lcm
 from numbertypes.errors import InvalidNumber
 
 LETTERS = "abcdefghijklmnopqrstuvwxyz"
+DIGITS = "0123456789"
 KEPT_WORDS = ("in", "out", "proc", "give")
 MOST_LETTERS = 6
 MOST_RADICAL = 1000000
@@ -94,6 +95,16 @@ def share(p, q=1):
     return (p // part, q // part)
 
 
+def sum_of_shares(x, y):
+    """The sum of two shares."""
+    return share(x[0] * y[1] + y[0] * x[1], x[1] * y[1])
+
+
+def product_of_shares(x, y):
+    """The product of two shares."""
+    return share(x[0] * y[0], x[1] * y[1])
+
+
 def inverse_modulo(number, modulus):
     """The integer from 0 to modulus - 1 whose product with the number leaves 1, for numbers without common divisors."""
     before, now = modulus, number % modulus
@@ -103,3 +114,46 @@ def inverse_modulo(number, modulus):
         before, now = now, before - times * now
         far, near = near, far - times * near
     return far % modulus
+
+
+def read_digits(text, most):
+    """The integer that a text writes with at most so many digits, without a sign and leading zeros, or None."""
+    if not 1 <= len(text) <= most or not all([sign in DIGITS for sign in text]):
+        return None
+    if text.startswith("0") and text != "0":
+        return None
+    return int(text)
+
+
+def read_integer(text, most):
+    """The same for an integer that may be negative and then has a sign; -0 is none."""
+    if not text.startswith("-"):
+        return read_digits(text, most)
+    number = read_digits(text[1:], most)
+    return None if number is None or number == 0 else -number
+
+
+def written(number):
+    """The decimal text of an integer of any length, as Python itself refuses those of thousands of digits."""
+    if number < 0:
+        return "-" + written(-number)
+    powers = [10**64]
+    while powers[-1] <= number:
+        powers.append(powers[-1] * powers[-1])
+    return written_below(number, powers)
+
+
+def written_below(number, powers):
+    """The decimal text of an integer below the last one of the powers 10^64, 10^128, 10^256 and so on."""
+    if len(powers) == 1:
+        return str(number)
+    lower = powers[:-1]
+    high, low = divmod(number, lower[-1])
+    if high == 0:
+        return written_below(low, lower)
+    return written_below(high, lower) + written_below(low, lower).zfill(32 << len(lower))
+
+
+def written_share(p, q):
+    """The text of p / q as it is given: without q where q is 1."""
+    return written(p) if q == 1 else written(p) + "/" + written(q)

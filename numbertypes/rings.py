@@ -8,9 +8,11 @@ from numbertypes.integers import (
     is_between,
     is_int,
     is_share,
+    product_of_shares,
     radical,
     share,
     stripped,
+    sum_of_shares,
 )
 
 MOST_MODULUS = 1000000000
@@ -154,6 +156,11 @@ class Ring:
     def _minus(self, x, y):
         return self._plus(x, self._times(-1, y))
 
+    def _scaled(self, p, q, x):
+        # p / q times a thing, for a q that has an inverse.
+        whole = self._times(p, x)
+        return whole if q == 1 else self._product(self._share(1, q), whole)
+
     def _swap_samples(self):
         # Pairs of things of which one breaks k times (xy - yx) = 0 if any pair does.
         return []
@@ -187,10 +194,10 @@ class Shares(Ring):
         return None
 
     def _plus(self, x, y):
-        return share(x[0] * y[1] + y[0] * x[1], x[1] * y[1])
+        return sum_of_shares(x, y)
 
     def _product(self, x, y):
-        return share(x[0] * y[0], x[1] * y[1])
+        return product_of_shares(x, y)
 
     def _times(self, k, x):
         return share(k * x[0], x[1])

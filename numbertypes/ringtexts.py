@@ -2,6 +2,7 @@
 
 from numbertypes.builds import Duals, Matrices, Polynomials, Roots, Triangles
 from numbertypes.errors import InvalidText, RingError
+from numbertypes.integers import read_integer
 from numbertypes.rings import Fractions, Rests, Ring, Sets, Whole
 from numbertypes.wider import Pairs, Quaternions, Swapped, Twists, Words
 
@@ -22,7 +23,6 @@ ARGUMENTS = {
     "swapped": ("ring",),
     "twists": ("number", "ring"),
 }
-DIGITS = "0123456789"
 MOST_DIGITS = 10
 
 
@@ -77,12 +77,10 @@ def parted(text):
 
 def number_of(text):
     """The integer that is written without leading zeros, negative ones with a sign."""
-    digits = text[1:] if text.startswith("-") else text
-    if not 1 <= len(digits) <= MOST_DIGITS or not all([sign in DIGITS for sign in digits]):
+    number = read_integer(text, MOST_DIGITS)
+    if number is None:
         raise InvalidText(0)
-    if digits.startswith("0") and text != "0":
-        raise InvalidText(0)
-    return int(text)
+    return number
 
 
 def made(word, values):

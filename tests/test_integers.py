@@ -4,7 +4,23 @@ import unittest
 from math import gcd
 
 from numbertypes.errors import InvalidNumber
-from numbertypes.integers import common, divides, is_int, is_name, is_share, multiple, radical, share, stripped
+from numbertypes.integers import (
+    common,
+    divides,
+    is_int,
+    is_name,
+    is_share,
+    multiple,
+    product_of_shares,
+    radical,
+    read_digits,
+    read_integer,
+    share,
+    stripped,
+    sum_of_shares,
+    written,
+    written_share,
+)
 from samples import ANY_VALUES, NO_INTEGERS, fails, same
 
 
@@ -122,6 +138,41 @@ class ShareTest(unittest.TestCase):
             expected = isinstance(value, tuple) and len(value) == 2 and all(is_int(part) for part in value)
             expected = expected and value[1] >= 1 and same(share(value[0], value[1]), value)
             self.assertIs(is_share(value), expected)
+
+    def test_sums_and_products(self):
+        shares = [share(p, q) for p in range(-4, 5) for q in range(1, 6)] + [(10**5000, 7**3000)]
+        for x in shares:
+            for y in shares:
+                self.assertTrue(same(sum_of_shares(x, y), share(x[0] * y[1] + x[1] * y[0], x[1] * y[1])))
+                self.assertTrue(same(product_of_shares(x, y), share(x[0] * y[0], x[1] * y[1])))
+
+
+class TextsOfNumbersTest(unittest.TestCase):
+    def test_digits(self):
+        for text, number in (("0", 0), ("7", 7), ("10", 10), ("999", 999)):
+            self.assertEqual(read_digits(text, 3), number)
+            self.assertEqual(read_integer(text, 3), number)
+        for text in ("", "00", "01", "1000", "-1", "+1", " 1", "1 ", "1.0", "1_0", "a", "-", "1\n", "--1"):
+            self.assertIsNone(read_digits(text, 3))
+
+    def test_integers(self):
+        for text, number in (("-1", -1), ("-999", -999), ("-10", -10)):
+            self.assertEqual(read_integer(text, 3), number)
+        for text in ("", "-", "-0", "-00", "-01", "-1000", "--1", "- 1", "+1", "1-", "-a"):
+            self.assertIsNone(read_integer(text, 3))
+
+    def test_written(self):
+        for number in list(range(-1200, 1200)) + [10**k + d for k in range(60, 140) for d in (-1, 0, 1)]:
+            self.assertEqual(written(number), str(number))
+        for k in (4299, 4300, 4301, 8191, 8192, 8193, 20000):
+            self.assertEqual(written(10**k), "1" + "0" * k)
+            self.assertEqual(written(10**k - 1), "9" * k)
+            self.assertEqual(written(-(10**k) - 5), "-1" + "0" * (k - 1) + "5")
+        self.assertEqual(written(12 * 10**6400 + 34), "12" + "0" * 6398 + "34")
+
+    def test_written_shares(self):
+        for p, q, text in ((3, 1, "3"), (-3, 1, "-3"), (3, 2, "3/2"), (-6, 4, "-6/4"), (0, 1, "0"), (0, 5, "0/5")):
+            self.assertEqual(written_share(p, q), text)
 
 
 if __name__ == "__main__":

@@ -24,7 +24,14 @@ BARRED_NODES = (
     ast.AsyncFunctionDef, ast.AsyncFor, ast.AsyncWith, ast.Await, ast.Global, ast.GeneratorExp, ast.Div, ast.MatMult,
     ast.AnnAssign,
 )
-SPECIAL_METHODS = {"__init__", "__eq__", "__repr__"}
+SPECIAL_METHODS = {
+    "__init__", "__eq__", "__repr__", "__len__", "__bool__", "__contains__", "__add__", "__sub__", "__mul__", "__neg__",
+    "__and__", "__or__",
+}
+# Calls whose result is iterated on the spot, and calls that iterate what they are given.
+AT_ONCE = {"range", "zip", "enumerate", "reversed", "set"}
+ITERATING = {"list", "tuple", "dict", "sorted", "sum", "any", "all", "enumerate", "zip", "min", "max", "reversed",
+             "len"}
 
 
 def nodes(kind):
@@ -169,6 +176,87 @@ class CodeTest(unittest.TestCase):
                 for given in node.args:
                     inner = given.func if isinstance(given, ast.Call) else None
                     self.assertFalse(isinstance(inner, ast.Attribute) and inner.attr in generators, name)
+
+    def test_what_is_iterated_at_once(self):
+        for path, tree in TREES.items():
+            allowed = set()
+            for node in ast.walk(tree):
+                if isinstance(node, (ast.For, ast.comprehension)):
+                    allowed.add(node.iter)
+                elif isinstance(node, ast.Call) and isinstance(node.func, ast.Name) and node.func.id in ITERATING:
+                    allowed.update(node.args)
+                elif isinstance(node, ast.Assign) and isinstance(node.value, ast.Call):
+                    if isinstance(node.value.func, ast.Name) and node.value.func.id == "range":
+                        allowed.add(node.value)
+            for node in ast.walk(tree):
+                if isinstance(node, ast.Call) and node not in allowed:
+                    word = getattr(node.func, "id", getattr(node.func, "attr", None))
+                    self.assertNotIn(word, AT_ONCE | {"items", "values", "keys"}, (path.name, node.lineno))
+
+    def test_sets(self):
+        for path, tree in TREES.items():
+            inside = set()
+            for node in ast.walk(tree):
+                if isinstance(node, ast.Call) and isinstance(node.func, ast.Name) and node.func.id in ("sorted", "len"):
+                    inside.update(node.args)
+            for node in ast.walk(tree):
+                self.assertNotIsInstance(node, (ast.Set, ast.SetComp), path.name)
+                if isinstance(node, ast.Call) and isinstance(node.func, ast.Name) and node.func.id == "set":
+                    self.assertIn(node, inside, (path.name, node.lineno))
+
+    def test_stars(self):
+        for name, node in nodes(ast.Call):
+            for given in node.args:
+                if isinstance(given, ast.Starred):
+                    self.assertIsInstance(given.value, (ast.Name, ast.Attribute), (name, node.lineno))
+            self.assertTrue(all(keyword.arg is not None for keyword in node.keywords), name)
+
+    def test_identity(self):
+        for name, node in nodes(ast.Compare):
+            for sign, right in zip(node.ops, node.comparators):
+                if isinstance(sign, (ast.Is, ast.IsNot)):
+                    self.assertIsInstance(right, ast.Constant, (name, node.lineno))
+
+    def test_exponents(self):
+        for name, node in nodes(ast.BinOp):
+            if isinstance(node.op, ast.Pow):
+                self.assertIsInstance(node.right, ast.Constant, (name, node.lineno))
+                self.assertTrue(0 <= node.right.value <= 64)
+
+    def test_returns_of_special_methods(self):
+        for name, function in functions():
+            returned = [node.value for node in ast.walk(function) if isinstance(node, ast.Return)]
+            for value in returned:
+                if function.name == "__repr__":
+                    self.assertIsInstance(value, ast.JoinedStr, name)
+                if function.name == "__len__":
+                    self.assertEqual(value.func.id, "len", name)
+                if function.name == "__bool__":
+                    self.assertTrue(isinstance(value, ast.Constant) or value.func.id == "bool", name)
+            if function.name in ("__repr__", "__len__", "__bool__", "__eq__"):
+                for node in ast.walk(function):
+                    self.assertNotIsInstance(node, (ast.Assign, ast.AugAssign, ast.Delete), name)
+
+    def test_caught_errors_are_own_ones(self):
+        own = {node.name for node in TREES[PACKAGE / "errors.py"].body if isinstance(node, ast.ClassDef)}
+        for name, node in nodes(ast.ExceptHandler):
+            self.assertIn(node.type.id, own, (name, node.lineno))
+
+    def test_names_of_properties_and_static_methods(self):
+        plain, properties, static, attributes = set(), set(), set(), set()
+        for _, node in nodes(ast.ClassDef):
+            for part in node.body:
+                if isinstance(part, ast.FunctionDef):
+                    kinds = [ast.unparse(decorator) for decorator in part.decorator_list]
+                    group = properties if "property" in kinds else static if "staticmethod" in kinds else plain
+                    group.add(part.name)
+        for _, node in nodes(ast.Attribute):
+            if isinstance(node.ctx, ast.Store):
+                attributes.add(node.attr)
+        self.assertEqual(properties & (plain | static | attributes), set())
+        self.assertEqual(static & (plain | attributes), set())
+        for kind in (str, int, list, dict, set, bytes, tuple):
+            self.assertEqual((properties | static | attributes) & set(dir(kind)), set())
 
     def test_methods_and_attributes(self):
         methods, attributes = set(), set()
