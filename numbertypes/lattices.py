@@ -81,6 +81,20 @@ class Lattice:
         factor = under[at] // part
         return (factor, self._small(combined(factor, row, -(row[at] // part), under)))
 
+    def rows(self):
+        """The list of the rows of the basis, by the places of their first entries."""
+        return [list(self._basis[at]) for at in sorted(self._basis)]
+
+    def factors(self, row):
+        """The list of how many times each row of the basis makes a row of the lattice, if the modulus is 0."""
+        found = []
+        rest = row
+        for at in sorted(self._basis):
+            under = self._basis[at]
+            found.append(rest[at] // under[at])
+            rest = combined(1, rest, -found[-1], under)
+        return found
+
     def divided(self, row):
         """The pair of the least factor from 1 on that brings the row into the lattice, and what is left then.
 

@@ -13,6 +13,7 @@ from numbertypes.errors import (
 from numbertypes.forms import Form
 from numbertypes.integers import LETTERS, is_name, multiple, radical
 from numbertypes.steps import (
+    are_known,
     are_names,
     first_wrong_step,
     form_made,
@@ -41,7 +42,7 @@ class Program:
         wrong = first_wrong_step(steps, MOST_STEPS, inputs, counts, counts)
         if wrong is not None:
             raise InvalidStep(None, wrong)
-        if not are_outputs(outputs, list(inputs) + [step[1] for step in steps]):
+        if not are_known(outputs, list(inputs) + [step[1] for step in steps], MOST_OUTPUTS):
             raise InvalidHead("out")
         if count_executed(steps, procedures) > MOST_STEPS:
             raise TooMany(MOST_STEPS)
@@ -190,13 +191,6 @@ def has_head(value, earlier):
     if not is_name(value[0]) or value[0] in earlier:
         return False
     return are_names(value[1], MOST_PARAMETERS) and isinstance(value[2], (list, tuple))
-
-
-def are_outputs(value, known):
-    """Whether any value is a list of 1 to 4 known names, which may come several times."""
-    if not isinstance(value, (list, tuple)) or not 1 <= len(value) <= MOST_OUTPUTS:
-        return False
-    return all([is_known(name, known) for name in value])
 
 
 def count_executed(steps, procedures):

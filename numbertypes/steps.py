@@ -19,6 +19,13 @@ def is_known(value, known):
     return is_name(value) and value in known
 
 
+def are_known(value, known, most):
+    """Whether any value is a list of 1 to so many known names, which may come several times."""
+    if not isinstance(value, (list, tuple)) or not 1 <= len(value) <= most:
+        return False
+    return all([is_known(name, known) for name in value])
+
+
 def is_step(step, known, counts):
     """Whether any value is a step behind which its target may stand, if the target is a new name.
 

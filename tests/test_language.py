@@ -26,12 +26,14 @@ BARRED_NODES = (
 )
 SPECIAL_METHODS = {
     "__init__", "__eq__", "__repr__", "__len__", "__bool__", "__contains__", "__add__", "__sub__", "__mul__", "__neg__",
-    "__and__", "__or__",
+    "__and__", "__or__", "__call__",
 }
+MATH_NAMES = {"gcd", "lcm", "isqrt", "comb", "perm", "factorial"}
+ITERTOOLS_NAMES = {"product", "combinations", "permutations"}
 # Calls whose result is iterated on the spot, and calls that iterate what they are given.
-AT_ONCE = {"range", "zip", "enumerate", "reversed", "set"}
+AT_ONCE = {"range", "zip", "enumerate", "reversed", "set", "combinations"}
 ITERATING = {"list", "tuple", "dict", "sorted", "sum", "any", "all", "enumerate", "zip", "min", "max", "reversed",
-             "len"}
+             "len", "combinations"}
 
 
 def nodes(kind):
@@ -43,6 +45,12 @@ def nodes(kind):
 
 def functions():
     return nodes(ast.FunctionDef)
+
+
+def kinds_of(function):
+    """The decorators of a function; the setter of a property stands behind the property itself."""
+    found = [ast.unparse(decorator) for decorator in function.decorator_list]
+    return ["setter" if word == function.name + ".setter" else word for word in found]
 
 
 def yields(function):
@@ -96,7 +104,9 @@ class ImportsTest(unittest.TestCase):
             self.assertTrue(all(alias.asname is None for alias in node.names), name)
             names = {alias.name for alias in node.names}
             if node.module == "math":
-                self.assertLessEqual(names, {"gcd", "lcm", "isqrt", "comb", "perm", "factorial"})
+                self.assertLessEqual(names, MATH_NAMES)
+            elif node.module == "itertools":
+                self.assertLessEqual(names, ITERTOOLS_NAMES)
             else:
                 package, _, stem = node.module.partition(".")
                 self.assertEqual(package, "numbertypes")
@@ -134,10 +144,11 @@ class CodeTest(unittest.TestCase):
             self.fail((name, node.lineno))
 
     def test_decorators(self):
-        for name, node in nodes((ast.FunctionDef, ast.ClassDef)):
-            for decorator in node.decorator_list:
-                self.assertIsInstance(node, ast.FunctionDef)
-                self.assertIn(ast.unparse(decorator), ("property", "staticmethod", "classmethod"), name)
+        for name, node in nodes(ast.ClassDef):
+            self.assertEqual(node.decorator_list, [], name)
+        for name, function in functions():
+            for word in kinds_of(function):
+                self.assertIn(word, ("property", "setter", "staticmethod", "classmethod"), name)
 
     def test_special_methods(self):
         for name, function in functions():
@@ -230,7 +241,7 @@ class CodeTest(unittest.TestCase):
                 if function.name == "__repr__":
                     self.assertIsInstance(value, ast.JoinedStr, name)
                 if function.name == "__len__":
-                    self.assertEqual(value.func.id, "len", name)
+                    self.assertTrue(isinstance(value, ast.Constant) or value.func.id == "len", name)
                 if function.name == "__bool__":
                     self.assertTrue(isinstance(value, ast.Constant) or value.func.id == "bool", name)
             if function.name in ("__repr__", "__len__", "__bool__", "__eq__"):
@@ -240,15 +251,17 @@ class CodeTest(unittest.TestCase):
     def test_caught_errors_are_own_ones(self):
         own = {node.name for node in TREES[PACKAGE / "errors.py"].body if isinstance(node, ast.ClassDef)}
         for name, node in nodes(ast.ExceptHandler):
-            self.assertIn(node.type.id, own, (name, node.lineno))
+            for kind in node.type.elts if isinstance(node.type, ast.Tuple) else [node.type]:
+                self.assertIn(kind.id, own, (name, node.lineno))
 
     def test_names_of_properties_and_static_methods(self):
         plain, properties, static, attributes = set(), set(), set(), set()
         for _, node in nodes(ast.ClassDef):
             for part in node.body:
                 if isinstance(part, ast.FunctionDef):
-                    kinds = [ast.unparse(decorator) for decorator in part.decorator_list]
-                    group = properties if "property" in kinds else static if "staticmethod" in kinds else plain
+                    kinds = kinds_of(part)
+                    group = static if "staticmethod" in kinds else plain
+                    group = properties if "property" in kinds or "setter" in kinds else group
                     group.add(part.name)
         for _, node in nodes(ast.Attribute):
             if isinstance(node.ctx, ast.Store):
@@ -267,7 +280,8 @@ class CodeTest(unittest.TestCase):
                 attributes.add(node.attr)
         self.assertEqual(methods & attributes, set())
         for _, node in nodes(ast.ClassDef):
-            names = [part.name for part in node.body if isinstance(part, ast.FunctionDef)]
+            names = [part.name for part in node.body
+                     if isinstance(part, ast.FunctionDef) and "setter" not in kinds_of(part)]
             self.assertEqual(len(names), len(set(names)), node.name)
 
 

@@ -46,6 +46,20 @@ class LatticesTest(unittest.TestCase):
         self.assertNotEqual(sum_of_products(shares, target)[1], 1)
         return 0 if any(rest[:places]) else factor
 
+    def test_rows_and_factors(self):
+        random = Random(9)
+        for _ in range(200):
+            places = random.randint(1, 4)
+            rows = [[random.randint(-9, 9) for _ in range(places)] for _ in range(random.randint(0, 5))]
+            lattice = first_lattice(places, 0, 0)
+            for row in rows:
+                lattice = lattice.with_row(row)
+            basis = lattice.rows()
+            self.assertLessEqual(len(basis), min(places, len(rows)))
+            for row in rows + basis:
+                factors = lattice.factors(row)
+                self.assertEqual([sum(k * part[at] for k, part in zip(factors, basis)) for at in range(places)], row)
+
     def test_drawn_rows(self):
         random = Random(6)
         for _ in range(600):
