@@ -72,9 +72,9 @@ def row_adds(rows):
 
 def role_adds(scheme):
     """The list of the adds of a scheme in its left inputs, its right inputs and its results."""
-    lefts = [u for u, _, _ in scheme.products]
-    rights = [v for _, v, _ in scheme.products]
-    results = [[w[at] for _, _, w in scheme.products] for at in range(scheme.sizes[2])]
+    lefts = [triple[0] for triple in scheme.products]
+    rights = [triple[1] for triple in scheme.products]
+    results = [[triple[2][at] for triple in scheme.products] for at in range(scheme.sizes[2])]
     return [row_adds(lefts), row_adds(rights), row_adds(results)]
 
 
@@ -152,7 +152,8 @@ class Scheme:
         made = []
         for u, v, _ in self._triples:
             made.append(ring._product(sum_of_things(ring, u, lefts), sum_of_things(ring, v, rights)))
-        return [sum_of_things(ring, [w[k] for _, _, w in self._triples], made) for k in range(self._sizes[2])]
+        rows = [[triple[2][k] for triple in self._triples] for k in range(self._sizes[2])]
+        return [sum_of_things(ring, row, made) for row in rows]
 
     def right_ones(self, table):
         """The number that, times one, is zero exactly in the rings in which the scheme is right for a wished table."""

@@ -239,7 +239,8 @@ class FactoredTest(unittest.TestCase):
         half, square, c = Form.read("1/2*a"), Form.read("a*a"), Form.word("c")
         self.assertFalse(self.holds([(half, B.scaled(4)), (B, A.scaled(3))]))
         self.assertFalse(self.holds([(A.scaled(2), B), (B.scaled(6), half)]))
-        self.assertFalse(self.holds([(square, Form.read("1")), self.pairs[0]], form=square + A * B.scaled(2) + self.rest))
+        self.assertFalse(self.holds([(square, Form.read("1")), self.pairs[0]],
+                                    form=square + A * B.scaled(2) + self.rest))
         self.assertFalse(self.holds([(A + c, B)], -c, form=A * B))
         self.assertFalse(self.holds([(A, B + c.scaled(0))], c, form=A * B))
         self.assertFalse(self.holds([(A, B)], half, modulus=3, form=A * B + A.scaled(2)))

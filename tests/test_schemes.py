@@ -282,7 +282,8 @@ class RightTest(unittest.TestCase):
         self.assertEqual(scheme.right_ones(table=WISHED), 0)
         for value in ANY_VALUES + [
             WISHED[0], WISHED + WISHED[:1], [WISHED[0], WISHED[1] + [[0, 0, 0]]], [WISHED[0], [[0, 1, 0], [0, 1]]],
-            [WISHED[0], [[0, 1, 0], [0, 0, True]]], [WISHED[0], [[0, 1, 0], [0, 0, None]]], [WISHED[0], [[0, 1, 0], "abc"]],
+            [WISHED[0], [[0, 1, 0], [0, 0, True]]], [WISHED[0], [[0, 1, 0], [0, 0, None]]],
+            [WISHED[0], [[0, 1, 0], "abc"]],
             [WISHED[0], None], [WISHED[0], "ab"], [WISHED[0], [[0, 1, 0], [0, 0, [1]]]], [[[1] * 3] * 2],
             [[[1] * 2] * 2] * 2, [[[1] * 3] * 3] * 2,
         ]:
@@ -500,7 +501,8 @@ class OfTest(unittest.TestCase):
     def test_long_programs(self):
         steps = [("multiply", "p", "a", "b")]
         for at in range(238):
-            steps.append(("share", chr(ord("a") + at // 26) + chr(ord("a") + at % 26) + "x", -HUGE + 1, 1, steps[-1][1]))
+            steps.append(("share", chr(ord("a") + at // 26) + chr(ord("a") + at % 26) + "x", -HUGE + 1, 1,
+                          steps[-1][1]))
         steps.append(("add", "last", steps[-1][1], "p"))
         scheme = self.of(steps, ["last"])
         self.assertEqual(scheme.products, (((1,), (1,), ((-HUGE + 1) ** 238 + 1,)),))

@@ -202,7 +202,8 @@ class ValuesTest(unittest.TestCase):
 
     def test_by_hand(self):
         self.assertTrue(same(sample().values(Rests(10), 3, 4), [5, 4, 5]))
-        self.assertTrue(same(sample().values(Whole(), (HUGE, 1), (0, 1)), [(7 * HUGE, 1), (2 * HUGE, 1), (7 * HUGE, 1)]))
+        self.assertTrue(same(sample().values(Whole(), (HUGE, 1), (0, 1)),
+                             [(7 * HUGE, 1), (2 * HUGE, 1), (7 * HUGE, 1)]))
 
     def test_errors(self):
         bench, ring = sample(), Matrices(2, Rests(3))
