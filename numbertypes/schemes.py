@@ -48,7 +48,7 @@ def is_table(value, sizes):
 
 def is_order(value):
     """Whether any value is a tuple of 0, 1 and 2, each once."""
-    if not isinstance(value, tuple) or len(value) != 3 or not all([is_between(role, 0, 2) for role in value]):
+    if not isinstance(value, tuple) or not all([is_between(role, 0, 2) for role in value]):
         return False
     return sorted(value) == [0, 1, 2]
 

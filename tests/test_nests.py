@@ -223,7 +223,7 @@ class DepthTest(unittest.TestCase):
                 fails(self, TooGreat, {"most": 200}, depth_ones, single(base), [[[1]]], depth)
 
     def test_wrong_depths(self):
-        for value in ANY_VALUES + [HUGE + 1, -HUGE]:
+        for value in ANY_VALUES + [HUGE + 1, -HUGE, 61, 60, -1]:
             if type(value) is not int or not 1 <= value <= HUGE:
                 fails(self, InvalidNumber, {"given": value}, depth_ones, single(2), [[[1]]], value)
             if type(value) is not int or not 0 <= value <= 60:

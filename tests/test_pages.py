@@ -114,7 +114,8 @@ class ReadTest(unittest.TestCase):
                           "ring\tzz",
                           "promise sq same bits six", "promise sq  same bits", " promise sq same bits",
                           "promise sq same bits ", "promise sq same A", "promises sq same bits",
-                          "promise out same bits"):
+                          "promise out same bits", "drop six", "drop plus",
+                          "release 1", "ring six rests(2)"):
                 text = "\n".join(lines[:at] + [wrong] + lines[at:])
                 self.refuse(text, at)
                 self.refuse("\n".join(lines[:at] + [wrong, ""]), at)

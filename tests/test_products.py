@@ -282,6 +282,11 @@ class FactoredTest(unittest.TestCase):
         paper.pairs[0].append(1)
         self.assertEqual(paper.pairs, ([A, [B]], (B, A)))
         self.assertEqual((paper.form, paper.modulus, paper.rest), (self.form, 7, self.rest))
+        rest = [1, [2]]
+        paper = Factored(self.form, 7, pairs, rest)
+        rest[1].append(3)
+        paper.rest[1].append(4)
+        self.assertEqual(paper.rest, [1, [2]])
         for name in ("form", "modulus", "pairs", "rest"):
             with self.assertRaises(AttributeError):
                 setattr(paper, name, 1)

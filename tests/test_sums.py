@@ -90,6 +90,9 @@ class BenchTest(unittest.TestCase):
         bench.table()[0][0] = 9
         bench.table().append([])
         self.assertEqual(bench.table(), [[1, 2]])
+        rows = sample().table()
+        rows[0].append(9)
+        self.assertEqual(rows[2], [7, -4])
         self.assertEqual((parts, lines[0]), ([(1, "a"), (2, "b"), (3, "c")], ("s", parts)))
 
     def test_equality(self):

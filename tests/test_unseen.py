@@ -199,6 +199,8 @@ class WithdrawTest(unittest.TestCase):
         fails(self, UnknownNumber, {"number": 1}, log.withdraw, 1)
         for realm in REALMS[:2]:
             log.note(realm, True)
+        for value in (True, "1", [1], (1,)):
+            fails(self, UnknownNumber, {"number": value}, log.withdraw, value)
         log.withdraw(1)
         before = state_of(log)
         for value in ANY_VALUES:
